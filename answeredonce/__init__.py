@@ -1,0 +1,1 @@
+"""Asked, and answered once: callers, servers, and the letters between them."""
