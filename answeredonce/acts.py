@@ -1,19 +1,12 @@
-"""The calls of a line: each refuses or does what it says, and gives back the list of the numbers it answers."""
+"""The calls about one caller, one server or one letter: each refuses or does what it says, and gives back the list of
+the numbers it answers.
+"""
 
 from answeredonce.events import ADD, ANSWER, ASKED, CAME_OVER, CAME_STOPPED, HAND_ON, WATCH
-from answeredonce.events import arrives, comes_back, dies, does_first, first_on_its_way, send
+from answeredonce.events import arrives, comes_back, dies, does_first, first_on_its_way, lives_again, send
+from answeredonce.limits import BAD_END, FULL_AIR, MOST_MUCH, MOST_TICKS, MOST_WHAT
+from answeredonce.limits import NOT_NOW, NOT_THERE, NOTHING, TOO_MANY
 from answeredonce.state import Wait
-
-NOT_THERE = -1
-BAD_END = -2
-NOTHING = -5
-TOO_MANY = -6
-NOT_NOW = -8
-
-MOST_WHAT = 4
-MOST_MUCH = 1000
-MOST_TICKS = 10000
-FULL_AIR = 150
 
 
 def asked_badly(world, c, p, what, much, other):
@@ -103,3 +96,12 @@ def die(world, p):
     watched = len(world.servers[p].watchers)
     dies(world, p)
     return [watched]
+
+
+def start(world, p):
+    if p not in world.servers:
+        return [NOT_THERE]
+    if world.servers[p].alive:
+        return [NOT_NOW]
+    lives_again(world, p)
+    return [world.servers[p].lives]

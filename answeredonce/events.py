@@ -1,4 +1,6 @@
-"""What happens in a world: letters are sent and arrive, calls come back, servers do their work and die."""
+"""What happens in a world: letters are sent and arrive, calls come back, servers work, die and live again,
+time and rounds pass.
+"""
 
 from answeredonce.state import Letter
 
@@ -121,3 +123,32 @@ def dies(world, p):
     server.asked = []
     server.later = []
     server.watchers = []
+
+
+# All else of the life before was lost when it died; its sum is told till the next life begins.
+def lives_again(world, p):
+    server = world.servers[p]
+    server.alive = True
+    server.lives += 1
+    server.total = 0
+
+
+def is_over(world, wait):
+    return wait is not None and wait.ends == 1 and wait.over <= world.now
+
+
+def time_passes(world, n):
+    world.now += n
+    for c in sorted(world.callers):
+        if is_over(world, world.callers[c].waiting):
+            comes_back(world, c, CAME_OVER, 0)
+
+
+def one_turn(world):
+    # The air is kept in the order of sending, so the letter sent first is at its head.
+    if len(world.air) > 0:
+        arrives(world, world.air.pop(0))
+    for p in sorted(world.servers):
+        # One who doesn't live was asked nothing: death took it, and nothing is put there since.
+        if len(world.servers[p].asked) > 0:
+            does_first(world, p)

@@ -3,6 +3,8 @@
 from answeredonce.world import answers
 
 MOST = 4294967295
+CALLERS = (1, 2, 3, 4)
+SERVERS = (11, 12, 13, 14)
 
 
 def ask(c, p, what=0, much=0, other=0, ends=0, ticks=0):
@@ -31,6 +33,39 @@ def answer(p, k):
 
 def die(p):
     return [6, p]
+
+
+def start(p):
+    return [7, p]
+
+
+def ticks(n):
+    return [8, n]
+
+
+def turns(n):
+    return [9, n]
+
+
+def came(c):
+    return [10, c]
+
+
+def waits(c):
+    return [11, c]
+
+
+def server(p):
+    return [12, p]
+
+
+def air():
+    return [13]
+
+
+def all_looks():
+    """The calls that together tell all of a world but the time and the number of the next call."""
+    return [came(c) for c in CALLERS] + [waits(c) for c in CALLERS] + [server(p) for p in SERVERS] + [air()]
 
 
 def handed_over(c, p, what=0, much=0, other=0):

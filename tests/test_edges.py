@@ -2,7 +2,8 @@
 
 import unittest
 
-from tests.lines import MOST, after, answer, ask, deliver, die, handed_over, letters_149, run, stop, tell, told, work
+from tests.lines import (MOST, after, air, answer, ask, came, deliver, die, handed_over, letters_149, run, server, start,
+                         stop, tell, ticks, told, turns, waits, work)
 
 NO_CALLERS = (0, 5, 10, 11, 14, MOST)
 NO_SERVERS = (0, 1, 4, 10, 15, MOST)
@@ -12,26 +13,28 @@ class WhoThereIs(unittest.TestCase):
     def test_callers_1_to_4(self):
         for c in (1, 2, 3, 4):
             with self.subTest(c=c):
-                self.assertEqual(run([tell(c, 11), ask(c, 11), stop(c)]), [[0], [1], [1]])
+                self.assertEqual(
+                    run([came(c), waits(c), tell(c, 11), ask(c, 11), waits(c), stop(c), came(c)]),
+                    [[0], [0], [0], [1], [1, 1, 11, 0], [1], [1, 1, 3, 0]])
 
     def test_no_other_callers(self):
         for c in NO_CALLERS:
             with self.subTest(c=c):
-                self.assertEqual(run([tell(c, 11), ask(c, 11), stop(c)]), [[-1], [-1], [-1]])
+                self.assertEqual(run([tell(c, 11), ask(c, 11), stop(c), came(c), waits(c)]), [[-1]] * 5)
 
     def test_servers_11_to_14(self):
         for p in (11, 12, 13, 14):
             with self.subTest(p=p):
                 self.assertEqual(
-                    run([tell(1, p), ask(1, p), work(p), answer(p, 1), die(p)]),
-                    [[0], [1], [-5], [-5], [0]])
+                    run([server(p), start(p), tell(1, p), ask(1, p), work(p), answer(p, 1), die(p), start(p), server(p)]),
+                    [[1, 1, 0, 0, 0, 0], [-8], [0], [1], [-5], [-5], [0], [2], [1, 2, 0, 0, 0, 0]])
 
     def test_no_other_servers(self):
         for p in NO_SERVERS:
             with self.subTest(p=p):
                 self.assertEqual(
-                    run([tell(1, p), ask(1, p), work(p), answer(p, 1), die(p)]),
-                    [[-1]] * 5)
+                    run([tell(1, p), ask(1, p), work(p), answer(p, 1), die(p), start(p), server(p)]),
+                    [[-1]] * 7)
 
 
 class WhatIsAsked(unittest.TestCase):
@@ -130,13 +133,15 @@ class LargestNumbers(unittest.TestCase):
     def test_each_call_takes_them(self):
         self.assertEqual(
             run([ask(MOST, MOST, MOST, MOST, MOST, MOST, MOST), tell(MOST, MOST, MOST), stop(MOST),
-                 deliver(MOST, MOST), work(MOST), answer(MOST, MOST), die(MOST)]),
-            [[-1], [-1], [-1], [-5], [-1], [-1], [-1]])
+                 deliver(MOST, MOST), work(MOST), answer(MOST, MOST), die(MOST), start(MOST), ticks(MOST),
+                 turns(MOST), came(MOST), waits(MOST), server(MOST), air()]),
+            [[-1], [-1], [-1], [-5]] + [[-1]] * 9 + [[0]])
 
     def test_each_call_takes_zeros(self):
         self.assertEqual(
-            run([[0] * 8, [1, 0, 0, 0], [2, 0], [3, 0, 0], [4, 0], [5, 0, 0], [6, 0]]),
-            [[-1], [-1], [-1], [-5], [-1], [-1], [-1]])
+            run([[0] * 8, [1, 0, 0, 0], [2, 0], [3, 0, 0], [4, 0], [5, 0, 0], [6, 0], [7, 0], [8, 0], [9, 0],
+                 [10, 0], [11, 0], [12, 0], [13]]),
+            [[-1], [-1], [-1], [-5]] + [[-1]] * 5 + [[0]] + [[-1]] * 3 + [[0]])
 
 
 if __name__ == "__main__":

@@ -90,6 +90,39 @@ class Language(unittest.TestCase):
 
         self.on_each_file(check)
 
+    def test_l15_no_parameter_or_local_is_called_like_an_import_or_a_class(self):
+        def check(path):
+            taken = {alias.name for node in nodes(path, ast.ImportFrom) for alias in node.names}
+            taken.update(node.name for node in nodes(path, ast.ClassDef))
+            given = {node.arg for node in nodes(path, ast.arg)}
+            given.update(node.id for node in nodes(path, ast.Name) if isinstance(node.ctx, ast.Store))
+            self.assertEqual(taken & given, set())
+
+        self.on_each_file(check)
+
+    def test_l16_each_name_from_the_file_that_defines_it_and_no_circle(self):
+        drawn = {}
+        for path in files():
+            for node in nodes(path, ast.ImportFrom):
+                source = node.module.split(".")[1]
+                drawn.setdefault(path.stem, set()).add(source)
+                body = ast.parse((PACKAGE / f"{source}.py").read_text("utf-8")).body
+                own = {row.name for row in body if isinstance(row, (ast.FunctionDef, ast.ClassDef))}
+                own.update(row.targets[0].id for row in body if isinstance(row, ast.Assign))
+                self.assertLessEqual({alias.name for alias in node.names}, own, path.name)
+        while drawn:
+            free = [name for name, sources in drawn.items() if not sources & set(drawn)]
+            self.assertTrue(free, f"a circle: {drawn}")
+            for name in free:
+                drawn.pop(name)
+
+    def test_l18_and_l26_values_of_objects(self):
+        own = set()
+        for path in files():
+            own.update(node.attr for node in nodes(path, ast.Attribute) if isinstance(node.ctx, ast.Store))
+        for kind in (str, int, list, dict, set, bytes, tuple):
+            self.assertEqual(own & set(dir(kind)), set())
+
     def test_l20_is_beside_none_alone(self):
         def check(path):
             for node in nodes(path, ast.Compare):

@@ -2,19 +2,13 @@
 
 import unittest
 
-from answeredonce.acts import answer as act_answer
-from answeredonce.acts import ask as act_ask
-from answeredonce.acts import deliver as act_deliver
-from answeredonce.acts import die as act_die
-from answeredonce.acts import stop as act_stop
-from answeredonce.acts import tell as act_tell
-from answeredonce.acts import work as act_work
 from answeredonce.state import World
-from tests.lines import MOST, after, answer, ask, deliver, die, handed_over, letters_149, run, stop, tell, work
+from answeredonce.world import answer_to
+from tests.lines import (MOST, after, all_looks, answer, ask, came, deliver, die, handed_over, letters_149, run, server,
+                         start, stop, tell, ticks, turns, waits, work)
 from tests.snapshots import snapshot
 
 FULL = letters_149() + [tell(2, 12)]
-ACTS = (act_ask, act_tell, act_stop, act_deliver, act_work, act_answer, act_die)
 
 
 class OrderAmongSeveral(unittest.TestCase):
@@ -99,11 +93,43 @@ class OrderAmongSeveral(unittest.TestCase):
         self.refused(handed_over(1, 11, 3) + [work(11)], die(11), -8)
         self.refused(handed_over(1, 11, 4) + [work(11)], die(11), -8)
 
+    def test_start(self):
+        for p in (0, 1, 4, 10, 15, MOST):
+            self.refused([], start(p), -1)
+            self.refused([die(11)], start(p), -1)
+        for p in (11, 12, 13, 14):
+            self.refused([], start(p), -8)
+            self.refused([die(p), start(p)], start(p), -8)
+        self.refused([die(11)], start(12), -8)
+
+    def test_ticks(self):
+        for n in (0, 10001, 10002, MOST):
+            self.refused([], ticks(n), -1)
+            self.refused([ask(1, 11, ends=1, ticks=1)], ticks(n), -1)
+
+    def test_turns(self):
+        for n in (501, 502, MOST):
+            self.refused([], turns(n), -1)
+            self.refused(FULL, turns(n), -1)
+
+    def test_came_and_waits(self):
+        for c in (0, 5, 10, 11, 14, MOST):
+            self.refused([], came(c), -1)
+            self.refused([], waits(c), -1)
+            self.refused([ask(1, 11)], came(c), -1)
+            self.refused([ask(1, 11)], waits(c), -1)
+
+    def test_server(self):
+        for p in (0, 1, 4, 10, 15, MOST):
+            self.refused([], server(p), -1)
+            self.refused([die(11)], server(p), -1)
+
 
 def lively():
     """A line in which all sorts of things are under way."""
     calls = handed_over(1, 11, 1, 5) + [work(11)] + handed_over(2, 11, 0, 6)
     calls += [ask(3, 12, 0, 7), tell(3, 13, 8), deliver(3, 12), die(14)]
+    calls += [stop(3), ask(3, 12, 0, 9, ends=1, ticks=20), ticks(19)]
     return calls
 
 
@@ -117,16 +143,44 @@ REFUSED = (
     (work(10), -1), (work(14), -8), (work(12), -5),
     (answer(15, 1), -1), (answer(11, 0), -5), (answer(11, 2), -5), (answer(14, 1), -5),
     (die(10), -1), (die(14), -8),
+    (start(10), -1), (start(15), -1), (start(4), -1), (start(11), -8), (start(13), -8),
+    (ticks(0), -1), (ticks(10001), -1), (ticks(MOST), -1), (turns(501), -1), (turns(MOST), -1),
+    (came(0), -1), (came(5), -1), (came(11), -1), (waits(0), -1), (waits(5), -1), (waits(MOST), -1),
+    (server(10), -1), (server(15), -1), (server(1), -1),
 )
 
 
 class AllIsAsItWas(unittest.TestCase):
     def act(self, world, call):
-        return ACTS[call[0]](world, *call[1:])
+        return answer_to(world, call[0], call[1:])
+
+    def test_what_the_looks_tell_behind_a_refusal(self):
+        expected = after(lively(), all_looks())
+        for call, number in REFUSED:
+            with self.subTest(call=call):
+                self.assertEqual(after(lively(), [call] + all_looks()), [[number]] + expected)
+
+    def test_what_the_looks_tell_behind_all_refusals(self):
+        refused = [call for call, number in REFUSED]
+        self.assertEqual(
+            after(lively(), refused + all_looks()),
+            [[number] for call, number in REFUSED] + after(lively(), all_looks()))
+
+    def test_the_time_and_the_numbers_of_calls_behind_all_refusals(self):
+        refused = [call for call, number in REFUSED]
+        self.assertEqual(
+            after(lively() + refused, [waits(3), ask(4, 11, ends=1, ticks=3), waits(4), ticks(1), waits(3), came(3)]),
+            [[1, 4, 12, 1, 20], [5], [1, 5, 11, 1, 22], [20], [0], [2, 3, 3, 0, 4, 2, 0]])
+
+    def test_too_many_letters_as_the_looks_tell(self):
+        for call in (ask(1, 11, ends=1), ask(3, 11), tell(3, 11)):
+            with self.subTest(call=call):
+                self.assertEqual(after(FULL, [call] + all_looks()), [[-6]] + after(FULL, all_looks()))
 
     def test_the_answers_behind_a_refusal(self):
         behind = [deliver(3, 12), deliver(3, 13), work(11), work(12), answer(11, 1), deliver(11, 1), deliver(11, 2),
-                  deliver(12, 3), deliver(1, 11), die(11), ask(4, 11), stop(4), ask(1, 11)]
+                  deliver(12, 3), deliver(1, 11), die(11), ask(4, 11), stop(4), ask(1, 11),
+                  start(14), ticks(1), turns(3)] + all_looks()
         expected = after(lively(), behind)
         for call, number in REFUSED:
             with self.subTest(call=call):

@@ -1,4 +1,4 @@
-"""What is kept that no call of a line tells yet: what came, the waits, the order of the letters sent, the sum."""
+"""What is kept, seen in the world itself: what came, the waits, the order of the letters sent, the sum."""
 
 import unittest
 
